@@ -4,6 +4,7 @@ import (
 	"strings"
 
 	"datakit/api"
+	"datakit/quote"
 )
 
 func letter(c byte) bool { return 'a' <= c && c <= 'z' || 'A' <= c && c <= 'Z' }
@@ -70,7 +71,7 @@ func lineComment(s string) (int, api.Errno) {
 		if r == '\n' || r == '\r' && strings.HasPrefix(s[i+1:], "\n") {
 			return i, api.OK
 		}
-		if broken(s, i, r) {
+		if quote.Broken(s, i, r) {
 			return 0, api.ErrText
 		}
 	}
@@ -82,7 +83,7 @@ func blockComment(s string) (int, api.Errno) {
 		if i >= 2 && r == '*' && strings.HasPrefix(s[i+1:], "/") {
 			return i + 2, api.OK
 		}
-		if broken(s, i, r) {
+		if quote.Broken(s, i, r) {
 			return 0, api.ErrText
 		}
 	}
@@ -90,7 +91,7 @@ func blockComment(s string) (int, api.Errno) {
 }
 
 func scanText(s string, prefix int) (int, int, api.Errno) {
-	size, err := quoted(s[prefix:], nil)
+	size, err := quote.Scan(s[prefix:], nil)
 	if err != api.OK {
 		return 0, 0, err
 	}

@@ -8,6 +8,7 @@ import (
 	"datakit/bracelex"
 	"datakit/decimal"
 	"datakit/moment"
+	"datakit/source"
 	"datakit/utf"
 )
 
@@ -21,38 +22,14 @@ func hasControl(s string) bool {
 	return false
 }
 
-// dashed reports whether a string begins like an entry of a list.
-func dashed(s string) bool { return s == "-" || strings.HasPrefix(s, "- ") }
-
 func spaced(s string) bool { return strings.HasPrefix(s, " ") || strings.HasSuffix(s, " ") }
 
 // plain reports whether a string is plain.
 func plain(s string) bool {
 	return s != "" && utf.Valid(s) && !hasControl(s) &&
 		strings.IndexByte("[]{},#&*!|>'\"%@`", s[0]) < 0 &&
-		!dashed(s) && !spaced(s) &&
+		!source.Dashed(s) && !spaced(s) &&
 		!strings.Contains(s, ": ") && !strings.Contains(s, " #") && !strings.HasSuffix(s, ":")
-}
-
-// simple reports whether a string is simple.
-func simple(s string) bool {
-	if s == "" || !utf.Valid(s) || dashed(s) || spaced(s) {
-		return false
-	}
-	for i := range len(s) {
-		if !simpleByte(s[i]) {
-			return false
-		}
-	}
-	return true
-}
-
-func simpleByte(c byte) bool {
-	switch {
-	case 'a' <= c && c <= 'z', 'A' <= c && c <= 'Z', '0' <= c && c <= '9', c >= 128:
-		return true
-	}
-	return strings.IndexByte(" _-./+$()=", c) >= 0
 }
 
 func isNumber(s string) bool {
@@ -67,7 +44,7 @@ func isTime(s string) bool {
 
 // Plain reports whether a string may be written without quotation marks.
 func Plain(s string) bool {
-	return simple(s) && s != "null" && s != "true" && s != "false" && !isNumber(s) && !isTime(s)
+	return source.Simple(s) && s != "null" && s != "true" && s != "false" && !isNumber(s) && !isTime(s)
 }
 
 // Quote returns the quoted string.

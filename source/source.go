@@ -2,6 +2,7 @@
 package source
 
 import (
+	"strings"
 	"unicode/utf8"
 
 	"datakit/api"
@@ -28,3 +29,46 @@ func Invalid(s string) int {
 
 // Number returns the text of a number.
 func Number(d api.Decimal) string { return decimal.Text(d) }
+
+// Simple reports whether a string may be written as a key, and in most cases as
+// a scalar, without quotation marks.
+func Simple(s string) bool {
+	if s == "" || !utf8.ValidString(s) || Dashed(s) || s[0] == ' ' || s[len(s)-1] == ' ' {
+		return false
+	}
+	for i := range len(s) {
+		if !simpleByte(s[i]) {
+			return false
+		}
+	}
+	return true
+}
+
+// Dashed reports whether a string begins like an entry of a list.
+func Dashed(s string) bool { return s == "-" || strings.HasPrefix(s, "- ") }
+
+func simpleByte(c byte) bool {
+	switch {
+	case 'a' <= c && c <= 'z', 'A' <= c && c <= 'Z', '0' <= c && c <= '9', c >= 128:
+		return true
+	}
+	return strings.IndexByte(" _-./+$()=", c) >= 0
+}
+
+// Partner returns the offset behind the partner of the quotation mark with which
+// a string begins, or 0 if there is none.
+func Partner(s string) int {
+	quote := s[0]
+	for i := 1; i < len(s); i++ {
+		switch {
+		case s[i] == '\\' && quote == '"':
+			i++
+		case s[i] != quote:
+		case quote == '\'' && strings.HasPrefix(s[i+1:], "'"):
+			i++
+		default:
+			return i + 1
+		}
+	}
+	return 0
+}
