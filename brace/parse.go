@@ -3,6 +3,7 @@ package brace
 import (
 	"datakit/api"
 	"datakit/bracelex"
+	"datakit/braces"
 	"datakit/limit"
 	"datakit/source"
 )
@@ -94,7 +95,7 @@ func (p *parser) punct(text string) bool {
 // value reads a value; the next token must be able to begin one.
 func (p *parser) value() api.Node {
 	list, fields := p.punct("["), p.punct("{")
-	if !list && !fields && !p.scalarToken() {
+	if !list && !fields && !braces.MayBeScalar(p.token) {
 		p.fail(api.ErrSyntax)
 	}
 	used, err := limit.Open(p.limits, p.used)
@@ -112,25 +113,13 @@ func (p *parser) value() api.Node {
 		keys := map[string]bool{}
 		n = p.entries(api.NMap, "}", func() []api.Node { return p.field(keys) })
 	default:
-		if _, err := scalar(p.token.Text); err != api.OK {
+		if _, err := braces.Scalar(p.token.Text); err != api.OK {
 			p.fail(err)
 		}
 		n = p.take(api.NScalar)
 	}
 	p.used, _ = limit.Close(p.used)
 	return n
-}
-
-// scalarToken reports whether the next token may stand as a scalar.
-func (p *parser) scalarToken() bool {
-	switch p.token.Kind {
-	case api.TokText:
-		return true
-	case api.TokWord:
-		text := p.token.Text
-		return !bracelex.Bare(text) || text == "null" || text == "true" || text == "false"
-	}
-	return false
 }
 
 // entries reads a list or a map from its opening bracket to its closing one.
@@ -155,11 +144,10 @@ func (p *parser) entries(kind int, end string, entry func() []api.Node) api.Node
 func (p *parser) element() []api.Node { return []api.Node{p.value()} }
 
 func (p *parser) field(keys map[string]bool) []api.Node {
-	bare := p.token.Kind == api.TokWord && bracelex.Bare(p.token.Text)
-	if !bare && (p.token.Kind != api.TokText || p.token.Text[0] != '"') {
+	if !braces.MayBeKey(p.token) {
 		p.fail(api.ErrSyntax)
 	}
-	key := keyOf(p.token.Text)
+	key := braces.Key(p.token.Text)
 	if len(key) > api.MaxKey {
 		p.fail(api.ErrSize)
 	}

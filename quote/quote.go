@@ -194,3 +194,17 @@ func Broken(s string, at int, r rune) bool {
 	_, size := utf8.DecodeRuneInString(s[at:])
 	return size == 1
 }
+
+// Follower follows the bytes of a quoted string after its first quotation mark.
+// It does not look at whether they are valid UTF-8.
+type Follower struct{ u unquoter }
+
+// Add takes a byte. It reports whether the string ends with it, or returns the
+// error if the string is malformed with it.
+func (f *Follower) Add(b byte) (bool, api.Errno) {
+	if f.u.want == wantUnit && b < 32 {
+		return false, api.ErrText
+	}
+	err := f.u.add(rune(b))
+	return f.u.closed, err
+}
