@@ -196,13 +196,20 @@ func Broken(s string, at int, r rune) bool {
 }
 
 // Follower follows the bytes of a quoted string after its first quotation mark.
-// It does not look at whether they are valid UTF-8.
-type Follower struct{ u unquoter }
+// It does not look at whether they are valid UTF-8. Control is the error of a
+// byte below 32 that stands for itself; if it is OK, that is ErrText.
+type Follower struct {
+	Control api.Errno
+	u       unquoter
+}
 
 // Add takes a byte. It reports whether the string ends with it, or returns the
 // error if the string is malformed with it.
 func (f *Follower) Add(b byte) (bool, api.Errno) {
 	if f.u.want == wantUnit && b < 32 {
+		if f.Control != api.OK {
+			return false, f.Control
+		}
 		return false, api.ErrText
 	}
 	err := f.u.add(rune(b))

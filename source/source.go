@@ -30,6 +30,9 @@ func Invalid(s string) int {
 // Number returns the text of a number.
 func Number(d api.Decimal) string { return decimal.Text(d) }
 
+// ReadNumber returns the number of a text.
+func ReadNumber(s string) (api.Decimal, api.Errno) { return decimal.Parse(s) }
+
 // Simple reports whether a string may be written as a key, and in most cases as
 // a scalar, without quotation marks.
 func Simple(s string) bool {
