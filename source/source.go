@@ -75,3 +75,15 @@ func Partner(s string) int {
 	}
 	return 0
 }
+
+// Int returns an integer as a number.
+func Int(n int) api.Decimal { return decimal.FromInt(n) }
+
+// Index returns a number as an int, and whether it is an integer from 0 to most.
+func Index(d api.Decimal, most int) (int, bool) {
+	n, err := decimal.ToInt(d)
+	if err != api.OK || n < 0 || n > most {
+		return 0, false
+	}
+	return n, true
+}

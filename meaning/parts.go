@@ -1,4 +1,4 @@
-package qeval
+package meaning
 
 import (
 	"slices"
@@ -29,7 +29,7 @@ func (x *item) pass(v api.Value, out sink, steps ...api.Step) *stop {
 	return out(y)
 }
 
-func (r *run) evalPart(t *task, x *item, out sink) *stop {
+func (r *Run) evalPart(t *task, x *item, out sink) *stop {
 	switch t.e.Op {
 	case api.QRecurse:
 		return recurse(x, out)
@@ -55,7 +55,7 @@ func (r *run) evalPart(t *task, x *item, out sink) *stop {
 }
 
 // bound evaluates a bound of a slice, which may be absent.
-func (r *run) bound(t *task, i int, x *item, out sink) *stop {
+func (r *Run) bound(t *task, i int, x *item, out sink) *stop {
 	if t.absent(i) {
 		return out(&item{})
 	}
@@ -111,7 +111,7 @@ func index(x *item, i api.Value, out sink) *stop {
 }
 
 // evalPaths evaluates a part as a path expression on the value of an item.
-func (r *run) evalPaths(t *task, i int, x *item, out func(p []api.Step) *stop) *stop {
+func (r *Run) evalPaths(t *task, i int, x *item, out func(p []api.Step) *stop) *stop {
 	return r.eval(t.part(i), &item{v: x.v, has: true}, func(y *item) *stop {
 		if !y.has {
 			return failure(api.ErrPath)
@@ -120,7 +120,7 @@ func (r *run) evalPaths(t *task, i int, x *item, out func(p []api.Step) *stop) *
 	})
 }
 
-func (r *run) evalAssign(t *task, x *item, out sink) *stop {
+func (r *Run) evalAssign(t *task, x *item, out sink) *stop {
 	return r.eval(t.part(1), x, func(w *item) *stop {
 		v := x.v
 		s := r.evalPaths(t, 0, x, func(p []api.Step) *stop {
@@ -138,7 +138,7 @@ func (r *run) evalAssign(t *task, x *item, out sink) *stop {
 	})
 }
 
-func (r *run) evalUpdate(t *task, x *item, out sink) *stop {
+func (r *Run) evalUpdate(t *task, x *item, out sink) *stop {
 	var paths [][]api.Step
 	list := api.Value{Kind: api.VList}
 	s := r.evalPaths(t, 0, x, func(p []api.Step) *stop {

@@ -1,4 +1,4 @@
-package qeval
+package meaning
 
 import (
 	"datakit/api"
@@ -6,7 +6,7 @@ import (
 	"datakit/qpath"
 )
 
-func (r *run) evalCall(t *task, x *item, out sink) *stop {
+func (r *Run) evalCall(t *task, x *item, out sink) *stop {
 	where, f := t.env.callee(t.e.Name)
 	if where != nil && f == nil {
 		return r.deeper(where.arg, t.depth, x, out)
@@ -27,7 +27,7 @@ func (r *run) evalCall(t *task, x *item, out sink) *stop {
 }
 
 // deeper evaluates a body or an argument at a call depth greater by 1.
-func (r *run) deeper(body task, depth int, x *item, out sink) *stop {
+func (r *Run) deeper(body task, depth int, x *item, out sink) *stop {
 	if depth == api.MaxFrames {
 		return failure(api.ErrFuel)
 	}
@@ -37,7 +37,7 @@ func (r *run) deeper(body task, depth int, x *item, out sink) *stop {
 
 // bind binds the parameters of a function from one on, and then evaluates the
 // body. The env has those before it and what surrounds the function.
-func (r *run) bind(t *task, f *api.Func, i int, s *env, x *item, out sink) *stop {
+func (r *Run) bind(t *task, f *api.Func, i int, s *env, x *item, out sink) *stop {
 	if i == len(f.Params) {
 		return r.deeper(task{e: &f.Body, env: s}, t.depth, x, out)
 	}
@@ -52,7 +52,7 @@ func (r *run) bind(t *task, f *api.Func, i int, s *env, x *item, out sink) *stop
 
 // native evaluates the arguments of a native function behind those that are
 // given, and then applies it.
-func (r *run) native(t *task, args []api.Value, x *item, out sink) *stop {
+func (r *Run) native(t *task, args []api.Value, x *item, out sink) *stop {
 	if len(args) < len(t.e.Args) {
 		return r.eval(t.part(len(args)), x, func(y *item) *stop {
 			return r.native(t, append(args[:len(args):len(args)], y.v), x, out)

@@ -1,4 +1,4 @@
-package qeval
+package meaning
 
 import (
 	"datakit/api"
@@ -19,7 +19,7 @@ func boolean(b bool, out sink) *stop { return out(&item{v: value.Bool(b)}) }
 
 // eval evaluates a task on an item. It is kept small, since evaluations are
 // nested as deeply as the outputs of each are passed on within it.
-func (r *run) eval(t *task, x *item, out sink) *stop {
+func (r *Run) eval(t *task, x *item, out sink) *stop {
 	if r.steps == r.fuel {
 		return failure(api.ErrFuel)
 	}
@@ -55,7 +55,7 @@ func (r *run) eval(t *task, x *item, out sink) *stop {
 }
 
 // evalName evaluates literals and what deals with names.
-func (r *run) evalName(t *task, x *item, out sink) *stop {
+func (r *Run) evalName(t *task, x *item, out sink) *stop {
 	switch t.e.Op {
 	case api.QLit:
 		return out(&item{v: t.e.Val})
@@ -77,13 +77,13 @@ func (r *run) evalName(t *task, x *item, out sink) *stop {
 }
 
 // two evaluates two parts and passes on each pair of outputs.
-func (r *run) two(t *task, x *item, out func(a, b api.Value) *stop) *stop {
+func (r *Run) two(t *task, x *item, out func(a, b api.Value) *stop) *stop {
 	return r.eval(t.part(0), x, func(a *item) *stop {
 		return r.eval(t.part(1), x, func(b *item) *stop { return out(a.v, b.v) })
 	})
 }
 
-func (r *run) evalOperator(t *task, x *item, out sink) *stop {
+func (r *Run) evalOperator(t *task, x *item, out sink) *stop {
 	switch t.e.Op {
 	case api.QNeg:
 		return r.eval(t.part(0), x, func(y *item) *stop {
@@ -109,7 +109,7 @@ func (r *run) evalOperator(t *task, x *item, out sink) *stop {
 	})
 }
 
-func (r *run) evalChoice(t *task, x *item, out sink) *stop {
+func (r *Run) evalChoice(t *task, x *item, out sink) *stop {
 	switch t.e.Op {
 	case api.QAlt:
 		return r.evalAlt(t, x, out)
@@ -127,7 +127,7 @@ func (r *run) evalChoice(t *task, x *item, out sink) *stop {
 	})
 }
 
-func (r *run) evalAlt(t *task, x *item, out sink) *stop {
+func (r *Run) evalAlt(t *task, x *item, out sink) *stop {
 	found := false
 	s := r.eval(t.part(0), x, func(y *item) *stop {
 		if !value.Truth(y.v) {
@@ -144,7 +144,7 @@ func (r *run) evalAlt(t *task, x *item, out sink) *stop {
 
 // evalTry tells the errors of the body from those that occur while an output is
 // passed on: these come back through the sink first.
-func (r *run) evalTry(t *task, x *item, out sink) *stop {
+func (r *Run) evalTry(t *task, x *item, out sink) *stop {
 	var passed *stop
 	s := r.eval(t.part(0), x, func(y *item) *stop {
 		passed = out(y)
@@ -159,7 +159,7 @@ func (r *run) evalTry(t *task, x *item, out sink) *stop {
 	return r.eval(t.part(1), &item{v: s.val}, out)
 }
 
-func (r *run) evalFold(t *task, x *item, out sink) *stop {
+func (r *Run) evalFold(t *task, x *item, out sink) *stop {
 	return r.eval(t.part(1), x, func(first *item) *stop {
 		state := first.v
 		if t.e.Op == api.QForeach {
@@ -183,7 +183,7 @@ func (r *run) evalFold(t *task, x *item, out sink) *stop {
 	})
 }
 
-func (r *run) foreachStep(t *task, v api.Value, state *api.Value, out sink) *stop {
+func (r *Run) foreachStep(t *task, v api.Value, state *api.Value, out sink) *stop {
 	return r.eval(t.with(2, v), &item{v: *state}, func(z *item) *stop {
 		*state = z.v
 		if t.absent(3) {
@@ -193,7 +193,7 @@ func (r *run) foreachStep(t *task, v api.Value, state *api.Value, out sink) *sto
 	})
 }
 
-func (r *run) evalMake(t *task, x *item, out sink) *stop {
+func (r *Run) evalMake(t *task, x *item, out sink) *stop {
 	if t.e.Op == api.QMap {
 		return r.fields(t, 0, nil, x, out)
 	}
@@ -212,7 +212,7 @@ func (r *run) evalMake(t *task, x *item, out sink) *stop {
 
 // fields evaluates the pairs of a map from one argument on; done has the fields
 // before them.
-func (r *run) fields(t *task, i int, done []api.Field, x *item, out sink) *stop {
+func (r *Run) fields(t *task, i int, done []api.Field, x *item, out sink) *stop {
 	if i == len(t.e.Args) {
 		v := api.Value{Kind: api.VMap, Fields: done}
 		return plain(v, value.Check(v), out)

@@ -1,4 +1,4 @@
-package qeval
+package meaning
 
 import (
 	"strings"
