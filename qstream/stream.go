@@ -3,33 +3,24 @@ package qstream
 import (
 	"datakit/api"
 	"datakit/event"
+	"datakit/follow"
 )
 
-// frame is a list or a map that has begun and not ended.
+// frame says what the selection has to do with a list or a map that is open.
 type frame struct {
-	fields bool // it is a map
-	keys   map[string]bool
-	key    string
-	keyed  bool // a key was taken, and its value was not
-	count  int  // elements that have begun
-	onWay  bool // the step of the selection is applied to it
-	found  bool // what the step names has begun
+	onWay bool // the step of the selection is applied to it
+	found bool // what the step names has begun
 }
 
 // stream follows the events of a value to the values that are selected. It holds
 // a selected value in a builder, and of all others only what is open.
 type stream struct {
 	*event.Builder
-	limits   api.Limits
-	steps    []api.Select
-	open     []frame
-	seen     int // values that have begun
-	held     int // values that have begun in the selected value
-	complete bool
-}
-
-func begins(kind int) bool {
-	return kind == api.EvScalar || kind == api.EvListStart || kind == api.EvMapStart
+	limits api.Limits
+	steps  []api.Select
+	events follow.Stream
+	frames []frame
+	held   int // values that have begun in the selected value
 }
 
 // take takes an event. It returns a value that is selected and complete.
@@ -38,93 +29,59 @@ func (s *stream) take(e api.Event) (api.Value, bool, api.Errno) {
 		return api.Value{}, false, err
 	}
 	switch {
-	case begins(e.Kind):
+	case follow.Begins(e.Kind):
 		return s.begin(e)
 	case e.Kind == api.EvKey:
-		f := s.top()
-		f.keys[e.Key] = true
-		f.key, f.keyed = e.Key, true
+		s.events.Take(e)
 		return s.hold(e)
 	}
 	return s.end(e)
 }
 
-func (s *stream) top() *frame { return &s.open[len(s.open)-1] }
+func (s *stream) top() *frame { return &s.frames[len(s.frames)-1] }
 
 // check returns the error that a builder of the whole value would return, or
 // that of the limits.
 func (s *stream) check(e api.Event) api.Errno {
-	// What is wrong with the event alone, a new builder says as well.
-	if err := event.New().Add(e); err != api.OK && err != api.ErrState {
-		return err
-	}
-	if !s.follows(e.Kind) {
-		return api.ErrState
-	}
-	if e.Kind == api.EvKey && s.top().keys[e.Key] {
-		return api.ErrExists
-	}
-	if !begins(e.Kind) {
-		return api.OK
-	}
+	err := s.events.Check(e)
 	switch {
-	case len(s.open) >= api.MaxDepth:
+	case err != api.OK || !follow.Begins(e.Kind):
+		return err
+	case len(s.frames) >= s.limits.Depth:
 		return api.ErrDepth
-	case s.seen >= api.MaxNodes:
-		return api.ErrSize
-	case len(s.open) >= s.limits.Depth:
-		return api.ErrDepth
-	case s.seen >= s.limits.Nodes:
+	case s.events.Seen >= s.limits.Nodes:
 		return api.ErrSize
 	}
 	return api.OK
 }
 
-// follows reports whether an event of a kind may follow those that were taken.
-func (s *stream) follows(kind int) bool {
-	if len(s.open) == 0 {
-		return !s.complete && begins(kind)
-	}
-	f := s.top()
-	switch kind {
-	case api.EvKey, api.EvMapEnd:
-		return f.fields && !f.keyed
-	case api.EvListEnd:
-		return !f.fields
-	}
-	return !f.fields || f.keyed
-}
-
 // reached reports whether the value that begins next is selected or on the way.
 func (s *stream) reached() bool {
-	k := len(s.open)
+	k := len(s.frames)
 	if k == 0 {
 		return true
 	}
-	f := s.top()
-	if !f.onWay {
+	if !s.top().onWay {
 		return false
 	}
-	step := s.steps[k-1]
+	step, f := s.steps[k-1], s.events.Top()
 	if step.Each {
 		return true
 	}
-	if f.fields {
-		return step.At == api.Step{Key: f.key}
+	if f.Fields {
+		return step.At == api.Step{Key: f.Key}
 	}
-	return step.At == api.Step{ByIndex: true, Index: f.count}
+	return step.At == api.Step{ByIndex: true, Index: f.Count}
 }
 
 // begin takes an event that begins a value.
 func (s *stream) begin(e api.Event) (api.Value, bool, api.Errno) {
-	s.seen++
-	k := len(s.open)
+	k := len(s.frames)
 	reached := s.Builder == nil && s.reached()
 	if k > 0 {
-		f := s.top()
-		f.found = f.found || reached
-		f.count++
+		s.top().found = s.top().found || reached
 	}
+	s.events.Take(e)
 	if reached && k == len(s.steps) {
 		s.Builder, s.held = event.New(), 0
 	}
@@ -134,18 +91,11 @@ func (s *stream) begin(e api.Event) (api.Value, bool, api.Errno) {
 			return api.Value{}, false, err
 		}
 	}
-	if e.Kind == api.EvScalar {
-		s.finish()
-		if onWay {
-			return s.missing(k)
-		}
-		return s.hold(e)
+	if e.Kind != api.EvScalar {
+		s.frames = append(s.frames, frame{onWay: onWay})
+	} else if onWay {
+		return s.missing(k)
 	}
-	f := frame{onWay: onWay}
-	if e.Kind == api.EvMapStart {
-		f.fields, f.keys = true, map[string]bool{}
-	}
-	s.open = append(s.open, f)
 	return s.hold(e)
 }
 
@@ -176,7 +126,7 @@ func (s *stream) hold(e api.Event) (api.Value, bool, api.Errno) {
 	if s.Builder == nil {
 		return api.Value{}, false, api.OK
 	}
-	if begins(e.Kind) {
+	if follow.Begins(e.Kind) {
 		s.held++
 	}
 	if err := s.Add(e); err != api.OK {
@@ -189,21 +139,12 @@ func (s *stream) hold(e api.Event) (api.Value, bool, api.Errno) {
 	return v, ok, api.OK
 }
 
-// finish ends a value.
-func (s *stream) finish() {
-	if len(s.open) == 0 {
-		s.complete = true
-		return
-	}
-	s.top().keyed = false
-}
-
 // end takes an event that ends a list or a map.
 func (s *stream) end(e api.Event) (api.Value, bool, api.Errno) {
 	f := *s.top()
-	s.open = s.open[:len(s.open)-1]
-	s.finish()
-	k := len(s.open)
+	s.frames = s.frames[:len(s.frames)-1]
+	s.events.Take(e)
+	k := len(s.frames)
 	if f.onWay && !f.found && !s.steps[k].Each {
 		return s.missing(k + 1)
 	}

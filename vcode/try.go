@@ -5,10 +5,7 @@ import (
 	"strings"
 
 	"datakit/api"
-	"datakit/automaton"
-	"datakit/numset"
-	"datakit/utf"
-	"datakit/value"
+	"datakit/leaf"
 )
 
 // trial tries nodes on parts of a value. It remembers what came of it, since a
@@ -45,7 +42,7 @@ func (t *trial) try(node int, v *api.Value) (bool, int) {
 func (t *trial) tryNew(n *api.Check, v *api.Value) (bool, int) {
 	switch n.Op {
 	case api.SList:
-		if v.Kind != api.VList || !within(n, len(v.List)) {
+		if v.Kind != api.VList || !leaf.Within(n, len(v.List)) {
 			return false, 1
 		}
 		return t.all(len(v.List), func(i int) (int, *api.Value) { return n.Kids[0], &v.List[i] })
@@ -54,7 +51,7 @@ func (t *trial) tryNew(n *api.Check, v *api.Value) (bool, int) {
 		if !ok {
 			return false, 1
 		}
-		return t.all(len(fields), func(i int) (int, *api.Value) { return kidOf(n, fields[i].Key), &fields[i].Val })
+		return t.all(len(fields), func(i int) (int, *api.Value) { return leaf.Kid(n, fields[i].Key), &fields[i].Val })
 	case api.SAll:
 		return t.all(len(n.Kids), func(i int) (int, *api.Value) { return n.Kids[i], v })
 	case api.SAnyOf:
@@ -71,7 +68,7 @@ func (t *trial) tryNew(n *api.Check, v *api.Value) (bool, int) {
 		ok, steps := t.try(n.Kids[0], v)
 		return !ok, min(steps+1, api.MaxFuel)
 	}
-	return permits(n, v), 1
+	return leaf.Permits(n, v), 1
 }
 
 // all tries nodes on values until one is not permitted.
@@ -85,10 +82,6 @@ func (t *trial) all(count int, pair func(i int) (int, *api.Value)) (bool, int) {
 		}
 	}
 	return true, steps
-}
-
-func within(n *api.Check, size int) bool {
-	return size >= n.Min && (n.Max == -1 || size <= n.Max)
 }
 
 // fieldsOf returns the fields of a value in the order of their keys, and whether
@@ -109,36 +102,4 @@ func fieldsOf(n *api.Check, v *api.Value) ([]*api.Field, bool) {
 		}
 	}
 	return fields, true
-}
-
-// kidOf returns the node of the field with a key.
-func kidOf(n *api.Check, key string) int {
-	i, ok := slices.BinarySearch(n.Keys, key)
-	if !ok {
-		i = len(n.Keys)
-	}
-	return n.Kids[i]
-}
-
-// permits reports whether a node without kids permits a value.
-func permits(n *api.Check, v *api.Value) bool {
-	switch n.Op {
-	case api.SAny:
-		return true
-	case api.SKinds:
-		return n.Mask>>v.Kind&1 == 1
-	case api.SNumber:
-		return v.Kind == api.VNum && numset.Has(n.Set, v.Num)
-	case api.SText:
-		if v.Kind != api.VText {
-			return false
-		}
-		size, _ := utf.Len(v.Text)
-		return within(n, size)
-	case api.SMatch:
-		return v.Kind == api.VText && automaton.Accepts(n.Machine, v.Text)
-	case api.SValues:
-		return slices.ContainsFunc(n.Vals, func(x api.Value) bool { return value.Equal(*v, x) })
-	}
-	return false
 }
