@@ -51,6 +51,10 @@ func TestLines(t *testing.T) {
 	if _, at, err := Lines(strings.Repeat("\xff", api.MaxInput+1)); at != 0 || err != api.ErrSize {
 		t.Error(at, err)
 	}
+	// An Indent above MaxInput has no meaning, but does no harm.
+	if got := Join([]api.Line{{Indent: 1<<63 - 1}}); len(got) < api.MaxInput {
+		t.Error(len(got))
+	}
 	if got := Join([]api.Line{{Indent: -3, Text: "x\xff"}, {Indent: 2, Comment: "#", End: "\n"}}); got != "x\xff  #\n" {
 		t.Errorf("%q", got)
 	}
