@@ -171,22 +171,38 @@ func sum(l []api.Value) (api.Value, api.Errno) {
 			return api.Value{}, err
 		}
 	}
-	return result(all.sum())
+	switch all.v.Kind {
+	case api.VText:
+		return result(value.Text(all.text.String()))
+	case api.VList:
+		return joined(all.lists), api.OK
+	}
+	return result(all.v)
 }
 
-// adder has the sum of some values.
+// joined returns the list of the elements of some lists.
+func joined(lists [][]api.Value) api.Value {
+	n := 0
+	for _, l := range lists {
+		n += len(l)
+	}
+	out := make([]api.Value, 0, n)
+	for _, l := range lists {
+		for _, v := range l {
+			out = append(out, value.Copy(v))
+		}
+	}
+	return api.Value{Kind: api.VList, List: out}
+}
+
+// adder has the sum of some values. That of lists is joined at the end; it is
+// valid if it is not too large, since it is not nested deeper than they are.
 type adder struct {
 	v      api.Value
 	text   strings.Builder
+	lists  [][]api.Value
 	nodes  int            // of a list or a map
 	places map[string]int // of the keys of a map
-}
-
-func (a *adder) sum() api.Value {
-	if a.v.Kind == api.VText {
-		a.v.Text = a.text.String()
-	}
-	return a.v
 }
 
 func (a *adder) add(v api.Value) api.Errno {
@@ -206,7 +222,7 @@ func (a *adder) add(v api.Value) api.Errno {
 			return api.ErrSize
 		}
 	case v.Kind == api.VList:
-		a.v.List = append(a.v.List, v.List...)
+		a.lists = append(a.lists, v.List)
 		return a.grow(value.Size(v) - 1)
 	case v.Kind == api.VMap:
 		return a.merge(v)
@@ -223,7 +239,7 @@ func (a *adder) begin(v api.Value) api.Errno {
 	case api.VText:
 		a.text.WriteString(v.Text)
 	case api.VList:
-		a.v.List = slices.Clone(v.List)
+		a.lists = [][]api.Value{v.List}
 		return a.grow(value.Size(v))
 	case api.VMap:
 		a.v.Fields = nil
