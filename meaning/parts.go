@@ -99,8 +99,9 @@ func index(x *item, i api.Value, out sink) *stop {
 		return out(&item{v: v})
 	}
 	if i.Kind == api.VNum && i.Num.Neg {
-		if i, err = builtin.Arith("+", i, value.Int(len(x.v.List))); err != api.OK {
-			return failure(err)
+		// A sum that has no representation is as negative as the index.
+		if sum, err := builtin.Arith("+", i, value.Int(len(x.v.List))); err == api.OK {
+			i = sum
 		}
 	}
 	step, err := qpath.Step(i)

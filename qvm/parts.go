@@ -61,8 +61,9 @@ func (m *Machine) index(e *entry, i api.Value) (outcome, failure) {
 		return m.pushed(v, api.OK)
 	}
 	if i.Kind == api.VNum && i.Num.Neg {
-		if i, err = builtin.Arith("+", i, value.Int(len(e.v.List))); err != api.OK {
-			return raise, errorOf(err)
+		// A sum that has no representation is as negative as the index.
+		if sum, err := builtin.Arith("+", i, value.Int(len(e.v.List))); err == api.OK {
+			i = sum
 		}
 	}
 	step, err := qpath.Step(i)
